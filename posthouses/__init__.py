@@ -1,0 +1,1 @@
+"""Posthouses: houses along a road, posts to which their letters are carried."""
