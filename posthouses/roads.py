@@ -11,10 +11,14 @@ def is_whole(value):
     return isinstance(value, int) and not isinstance(value, bool)
 
 
+def is_whole_from(value, least):
+    return is_whole(value) and value >= least
+
+
 def is_house(value):
     if not isinstance(value, tuple) or len(value) != 2:
         return False
-    return is_whole(value[0]) and is_whole(value[1]) and value[1] >= 0
+    return is_whole(value[0]) and is_whole_from(value[1], 0)
 
 
 def is_rising(numbers):
@@ -41,7 +45,7 @@ def check_posts(road, posts):
     if not isinstance(posts, list):
         raise BadPosts("posts are a list")
     for post in posts:
-        if not is_whole(post) or post < 0 or post >= len(road):
+        if not is_whole_from(post, 0) or post >= len(road):
             raise BadPosts("a post is the count of one of the road's houses")
     if not is_rising(posts):
         raise BadPosts("posts rise")
@@ -108,3 +112,25 @@ def one_way(road, first, end):
     check_road(road)
     check_stretch(road, first, end)
     return min(ways_to_each(road[first:end]))
+
+
+def one_ways_to(road, end):
+    post = end - 1
+    from_post_on = road[post][1]
+    ahead = 0
+    carried = 0
+    told = [0]
+    for first in range(end - 2, -1, -1):
+        letters = road[first][1]
+        ahead += letters
+        carried += letters * apart(road, first, post)
+        # The stretch grows ahead of the post alone, so the best post never goes on again, and one walk back serves
+        # every stretch with this end.
+        while ahead > from_post_on:
+            carried -= (ahead - from_post_on) * apart(road, post - 1, post)
+            post -= 1
+            from_post_on += road[post][1]
+            ahead -= road[post][1]
+        told.append(carried)
+    told.reverse()
+    return told

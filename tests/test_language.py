@@ -63,6 +63,33 @@ def methods_of_package(trees):
             for method in node.body if isinstance(method, ast.FunctionDef)}
 
 
+def values_of_objects(trees):
+    return {node.attr for tree in trees for node in ast.walk(tree)
+            if isinstance(node, ast.Attribute) and isinstance(node.ctx, ast.Store)}
+
+
+def imported_names(tree):
+    return {alias.name for node in ast.walk(tree) if isinstance(node, ast.ImportFrom) for alias in node.names}
+
+
+def names_within_defs(tree):
+    names = set()
+    for node in ast.walk(tree):
+        if isinstance(node, (ast.FunctionDef, ast.ListComp)):
+            for part in ast.walk(node):
+                if isinstance(part, ast.arg):
+                    names.add(part.arg)
+                elif isinstance(part, ast.Name) and isinstance(part.ctx, ast.Store):
+                    names.add(part.id)
+    return names
+
+
+def is_called(node, names):
+    if not isinstance(node, ast.Call):
+        return False
+    return (node.func.id if isinstance(node.func, ast.Name) else getattr(node.func, "attr", "")) in names
+
+
 class Language(unittest.TestCase):
     def setUp(self):
         self.files = sorted(path for path in PACKAGE.rglob("*") if path.is_file() and "__pycache__" not in path.parts)
@@ -146,6 +173,60 @@ class Language(unittest.TestCase):
                 self.assertNotIn(node.attr, NAMES_NOWHERE, where)
             if isinstance(node, ast.Call) and isinstance(node.func, ast.Attribute):
                 self.assertIn(node.func.attr, own | METHODS_OF_PYTHON, where)
+
+    def test_no_value_is_called_like_a_method(self):
+        values = values_of_objects(self.trees.values())
+        self.assertEqual(values & methods_of_package(self.trees.values()), set())
+        kinds = (str, int, list, tuple, dict, set, frozenset, bytes)
+        self.assertEqual({value for value in values if any(hasattr(kind, value) for kind in kinds)}, set())
+
+    def test_no_local_is_called_like_an_import_or_a_class(self):
+        for name, tree in self.trees.items():
+            classes = {node.name for node in tree.body if isinstance(node, ast.ClassDef)}
+            self.assertEqual(names_within_defs(tree) & (imported_names(tree) | classes), set(), name)
+
+    def test_each_name_once_at_the_top(self):
+        for name, tree in self.trees.items():
+            names = [node.name for node in tree.body if isinstance(node, (ast.FunctionDef, ast.ClassDef))]
+            names += list(imported_names(tree))
+            self.assertEqual(sorted(names), sorted(set(names)), name)
+
+    def test_no_two_files_draw_from_one_another(self):
+        draws = {name: {node.module.split(".")[1] + ".py" for node in ast.walk(tree)
+                        if isinstance(node, ast.ImportFrom)} for name, tree in self.trees.items()}
+        while draws:
+            free = [name for name in draws if not draws[name] & set(draws)]
+            self.assertNotEqual(free, [], draws)
+            for name in free:
+                del draws[name]
+
+    def test_is_stands_beside_none_true_and_false_alone(self):
+        for where, node in self.nodes():
+            if isinstance(node, ast.Compare):
+                for sign, right in zip(node.ops, node.comparators):
+                    if isinstance(sign, (ast.Is, ast.IsNot)):
+                        self.assertIsInstance(right, ast.Constant, where)
+                        self.assertIn(right.value, (None, True, False), where)
+
+    def test_walked_at_once(self):
+        walked = {"zip", "enumerate", "reversed", "range", "items", "keys", "values"}
+        walkers = {"list", "tuple", "dict", "sorted", "sum", "any", "all", "enumerate", "zip", "min", "max", "join"}
+        right = set()
+        for where, node in self.nodes():
+            if isinstance(node, (ast.For, ast.comprehension)):
+                right.add(id(node.iter))
+            elif is_called(node, walkers) and node.args:
+                right.add(id(node.args[0]))
+        for where, node in self.nodes():
+            if is_called(node, walked):
+                self.assertIn(id(node), right, where)
+
+    def test_no_try_but_for_errors_of_the_package(self):
+        own = {node.name for node in self.trees["errors.py"].body if isinstance(node, ast.ClassDef)}
+        for where, node in self.nodes():
+            if isinstance(node, ast.ExceptHandler):
+                self.assertIsInstance(node.type, ast.Name, where)
+                self.assertIn(node.type.id, own, where)
 
 
 if __name__ == "__main__":

@@ -212,34 +212,6 @@ class NewAnswers(unittest.TestCase):
         self.assertEqual((middle(road, 0, 4), one_way(road, 0, 4)), ([3], 21))
 
 
-NO_HOUSES = cases.NO_NUMBERS + [(0,), (0, 1, 2), [0, 1], "01", {0: 1, 1: 2}, {0, 1}, ((0, 1), 1)]
-
-
-def bad_roads():
-    yield from cases.NO_LISTS
-    for wrong in NO_HOUSES:
-        yield [wrong]
-        yield [(-9, 1), wrong]
-        yield [wrong, (9, 1)]
-        yield [(-9, 1), wrong, (9, 1)]
-    for wrong in cases.NO_NUMBERS:
-        yield [(wrong, 1)]
-        yield [(0, wrong)]
-        yield [(-9, 1), (wrong, 1), (9, 1)]
-        yield [(-9, 1), (0, wrong), (9, 1)]
-    yield [(0, 1), (0, 1)]
-    yield [(1, 1), (0, 1)]
-    yield [(0, 1), (2, 1), (2, 0)]
-    yield [(0, 1), (2, 1), (1, 0)]
-    yield [(2, 1), (1, 1), (3, 1)]
-    yield [(cases.HUGE, 1), (cases.HUGE, 1)]
-    yield [(cases.HUGE, 1), (-cases.HUGE, 1)]
-    yield [(0, -1)]
-    yield [(0, -cases.HUGE)]
-    yield [(0, -1), (1, 1)]
-    yield [(0, 1), (1, 1), (2, -1)]
-
-
 def bad_posts(count):
     """For a road of so many houses, one or more."""
     yield from cases.NO_LISTS
@@ -277,17 +249,9 @@ def bad_stretches(count):
     yield count, 0
 
 
-class Refusals(unittest.TestCase):
-    def check_refused(self, error, ask, *handed):
-        try:
-            ask(*handed)
-        except error as raised:
-            self.assertIs(type(raised), error)
-        else:
-            self.fail("not refused")
-
+class Refusals(cases.Refusing):
     def test_no_road(self):
-        for number, road in enumerate(bad_roads()):
+        for number, road in enumerate(cases.bad_roads()):
             with self.subTest(number):
                 self.check_refused(BadRoad, nearest, road, [0])
                 self.check_refused(BadRoad, way, road, [0])
@@ -315,7 +279,7 @@ class Refusals(unittest.TestCase):
                     self.check_refused(BadStretch, one_way, road, first, end)
 
     def test_where_both_are_wrong_the_road_goes_first(self):
-        for number, road in enumerate(bad_roads()):
+        for number, road in enumerate(cases.bad_roads()):
             with self.subTest(number):
                 for posts in (None, [], [True], [-1], [99], [0, 0], [1, 0]):
                     self.check_refused(BadRoad, nearest, road, posts)
